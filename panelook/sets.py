@@ -66,6 +66,9 @@ def combined(one, other, keeps):
 
 def combined_spans(ones, others, keeps):
     """The spans of the places for which keeps(is it in ones, is it in others) holds."""
+    if not ones or not others:
+        # Most rows of a large region meet none of a small one: they are kept or left as a whole.
+        return (ones or others) if keeps(bool(ones), bool(others)) else ()
     spans = []
     for x0, x1, here, there in stretches(inside_from(ones), inside_from(others), False):
         if keeps(here, there):

@@ -1,6 +1,8 @@
 """Sets of cells held cell by cell, apart from the program, to hold its regions against."""
 
 FAR = 10 ** 60 - 1  # the greatest number of sixty figures
+# A number that Python does not write out; cells_in tells such ones, asked of a box as wide as what it told, and so on.
+HUGE = FAR ** 256
 
 
 def cells_of(region):

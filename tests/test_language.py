@@ -16,6 +16,9 @@ BUILTINS = set("""len range enumerate zip min max sum abs sorted reversed int st
 WORDS = set("""type typing typing_extensions enum Enum IntEnum StrEnum Flag IntFlag Generic Protocol ABC ABCMeta
     namedtuple NamedTuple TypedDict TYPE_CHECKING abstractmethod""".split())
 SPECIAL = set("""__init__ __eq__ __repr__ __str__ __len__ __enter__ __exit__ __call__ __iter__""".split())
+METHODS = set("""append clear copy count endswith extend find get index insert isalnum isalpha isdigit islower isspace
+    isupper items join keys ljust lower lstrip partition pop remove replace reverse rfind rjust rpartition rsplit
+    rstrip setdefault split splitlines startswith strip update upper values zfill bit_length""".split())
 BARRED = (ast.Global, ast.AsyncFunctionDef, ast.AsyncFor, ast.AsyncWith, ast.Await, ast.Import, ast.Div)
 
 
@@ -91,6 +94,38 @@ class Language(unittest.TestCase):
             defined += [part.targets[0].id for part in self.trees[path].body if isinstance(part, ast.Assign)]
             for name in node.names:
                 self.assertIn(name.name, defined, where)
+
+    def test_methods_and_attributes(self):
+        methods = [node.name for _, row in self.nodes(ast.ClassDef) for node in row.body
+                   if isinstance(node, ast.FunctionDef)]
+        stored = {node.attr for _, node in self.nodes(ast.Attribute) if isinstance(node.ctx, ast.Store)}
+        self.assertEqual(stored & set(methods), set())
+        for value in ("", 0, [], {}, set(), b""):
+            self.assertEqual(stored & set(dir(value)), set())
+            self.assertEqual((set(methods) - SPECIAL) & set(dir(value)), set())
+        for where, node in self.nodes(ast.Attribute):
+            if not isinstance(node.ctx, ast.Store):
+                self.assertIn(node.attr, stored | set(methods) | METHODS, where)
+
+    def test_attributes_are_stored_through_a_name(self):
+        for where, node in self.nodes(ast.Attribute):
+            if isinstance(node.ctx, ast.Store):
+                self.assertIsInstance(node.value, ast.Name, where)
+
+    def test_methods_stand_in_one_class_once(self):
+        for where, row in self.nodes(ast.ClassDef):
+            names = [node.name for node in row.body if isinstance(node, ast.FunctionDef)]
+            self.assertEqual(len(names), len(set(names)), where)
+
+    def test_no_name_of_an_import_or_a_class_is_given_another_meaning(self):
+        for path, tree in self.trees.items():
+            taken = {name.name for node in tree.body if isinstance(node, ast.ImportFrom) for name in node.names}
+            taken |= {node.name for node in tree.body if isinstance(node, ast.ClassDef)}
+            given = [node.arg for node in ast.walk(tree) if isinstance(node, ast.arg)]
+            given += [node.id for node in ast.walk(tree) if isinstance(node, ast.Name) and
+                      isinstance(node.ctx, ast.Store)]
+            self.assertEqual(taken & set(given), set(), path.name)
+            self.assertEqual(set(given) & set(dir(builtins)), set(), path.name)
 
     def test_statements_and_values(self):
         for where, node in self.nodes(*BARRED):
