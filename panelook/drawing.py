@@ -5,7 +5,7 @@ Edges are a tuple (left, top, right, bottom), the last two not within; they have
 
 from panelook.panes import PLANE
 from panelook.regions import region_of_box
-from panelook.sets import both, boxes_of, without
+from panelook.sets import both, boxes_of, moved, without
 from panelook.sizes import check_size
 
 
@@ -54,22 +54,52 @@ def shown_at(panes, x, y):
 
 def shown_in(panes, x, y, w, h):
     """The tuples (pane, region), by rising pane, of the cells in the box that show a pane."""
-    shown = shown_and_bare(panes, x, y, w, h)[0]
-    return [(pane, shown[pane]) for pane in sorted(shown)]
+    seen = seen_in(panes, x, y, w, h)[0]
+    return [(pane, moved(seen[pane][0], x, y)) for pane in sorted(seen)]
 
 
 def bare_in(panes, x, y, w, h):
     """The region of the cells in the box that show no pane."""
-    return shown_and_bare(panes, x, y, w, h)[1]
+    return moved(seen_in(panes, x, y, w, h)[1], x, y)
 
 
 def drawn(panes, x, y, w, h):
     """The h texts of w signs that the box shows, with a point where no pane is."""
     check_size(w, h)
     board = [["."] * w for row in range(h)]
-    for pane, region in shown_in(panes, x, y, w, h):
-        draw_pane(board, x, y, panes, pane, region)
+    seen = seen_in(panes, x, y, w, h)[0]
+    for pane in seen:
+        region, sheet, sx, sy = seen[pane]
+        draw_signs(board, region, panes.sheets_kept(), sheet, sx, sy)
     return ["".join(signs) for signs in board]
+
+
+def seen_in(panes, x, y, w, h):
+    """What a box shows, told from its own first cell: a dict by pane, and the region of the cells that show none.
+
+    The dict has a tuple (region, sheet, x, y) for each pane that is seen: the cells that show it, the sheet, and
+    the sheet's cell that lies, or would lie, at the box's first one.
+    """
+    parts = parts_within(panes, x, y, w, h)
+    seen = {}
+    bare = region_of_box(0, 0, w, h)
+    # From the last one drawn on, so that each has what those over it have left bare.
+    for pane in reversed(list(parts)):
+        left, top, edges = parts[pane]
+        region = both(bare, region_within(edges))
+        if region:
+            parent, sheet, px, py, pw, ph, sx, sy, hidden = panes.told(pane)
+            seen[pane] = (region, sheet, sx - left, sy - top)
+            bare = without(bare, region)
+    return (seen, bare)
+
+
+def draw_signs(board, region, sheets, sheet, x, y):
+    """Puts the sheet's signs at the region's cells of a board at whose first cell the sheet's cell (x, y) lies."""
+    for left, top, w, h in boxes_of(region):
+        for row in range(top, top + h):
+            for column in range(left, left + w):
+                board[row][column] = sheets.sign_at(sheet, column + x, row + y)
 
 
 def outward(panes, pane):
@@ -89,35 +119,23 @@ def highest_at(panes, parent, x, y):
     return PLANE
 
 
-def shown_and_bare(panes, x, y, w, h):
-    """The cells of a box as a dict of regions by the pane that they show, and the region of those that show none."""
-    parts = parts_within(panes, (x, y, x + w, y + h))
-    shown = {}
-    bare = region_of_box(x, y, w, h)
-    # From the last one drawn on, so that each has what those over it have left bare.
-    for pane in reversed(list(parts)):
-        region = both(bare, region_within(parts[pane]))
-        if region:
-            shown[pane] = region
-            bare = without(bare, region)
-    return (shown, bare)
+def parts_within(panes, x, y, w, h):
+    """For each pane whose area has cells in the box, in the drawing order, its corner and the edges of these cells.
 
-
-def parts_within(panes, edges):
-    """The edges of what lies within the told ones of each area that has cells there, in the drawing order."""
-    corners = {PLANE: (0, 0)}
-    parts = {PLANE: edges}
+    They are tuples (x, y, edges), told from the box's first cell.
+    """
+    parts = {PLANE: (-x, -y, (0, 0, w, h))}
     for pane in drawing_order(panes):
-        parent, sheet, x, y, w, h, sx, sy, hidden = panes.told(pane)
+        parent, sheet, px, py, pw, ph, sx, sy, hidden = panes.told(pane)
         # A parent is drawn ahead of what lies in it; where it has no part there, they have none either.
         if hidden or parent not in parts:
             continue
-        left = corners[parent][0] + x
-        top = corners[parent][1] + y
-        part = overlap(parts[parent], (left, top, left + w, top + h))
-        if part[0] < part[2] and part[1] < part[3]:
-            corners[pane] = (left, top)
-            parts[pane] = part
+        left, top, edges = parts[parent]
+        left += px
+        top += py
+        edges = overlap(edges, (left, top, left + pw, top + ph))
+        if edges[0] < edges[2] and edges[1] < edges[3]:
+            parts[pane] = (left, top, edges)
     del parts[PLANE]
     return parts
 
@@ -131,14 +149,3 @@ def region_within(edges):
     """The region of the cells within the edges."""
     left, top, right, bottom = edges
     return region_of_box(left, top, right - left, bottom - top)
-
-
-def draw_pane(board, x, y, panes, pane, region):
-    """Puts onto the board, whose first cell is the plane's (x, y), the signs of the cells that show the pane."""
-    left, top = corner(panes, pane)
-    parent, sheet, px, py, pw, ph, sx, sy, hidden = panes.told(pane)
-    sheets = panes.sheets_kept()
-    for box_x, box_y, box_w, box_h in boxes_of(region):
-        for row in range(box_y, box_y + box_h):
-            for column in range(box_x, box_x + box_w):
-                board[row - y][column - x] = sheets.sign_at(sheet, column - left + sx, row - top + sy)

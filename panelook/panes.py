@@ -138,6 +138,10 @@ class Panes:
         """The sheets that the panes were made with."""
         return self.sheets
 
+    def go_on_from(self, number):
+        """Has the next pane opened get the number, which must be no pane's."""
+        self.upcoming = number
+
     def pane_of(self, pane):
         """The pane that has the number, refused where none has it."""
         if pane not in self.panes:

@@ -8,11 +8,11 @@ from panelook.sizes import check_size
 class Sheet:
     """One sheet: its rows of signs, and for each cell the number of the last deed that met it, 0 where none did."""
 
-    def __init__(self, w, h, sign):
-        self.w = w
-        self.h = h
-        self.rows = [sign * w] * h
-        self.marks = [[0] * w for row in range(h)]
+    def __init__(self, rows):
+        self.w = len(rows[0])
+        self.h = len(rows)
+        self.rows = rows
+        self.marks = [[0] * self.w for row in rows]
 
     def put(self, left, y, h, signs, deed):
         """Puts the signs, which stand within the width, from left on into each of h rows from y on."""
@@ -33,7 +33,7 @@ class Sheets:
     def make(self, w, h, sign):
         """Makes a sheet with the sign at each cell, and tells its number."""
         check_size(w, h)
-        self.made.append(Sheet(w, h, sign))
+        self.add_sheet([sign * w] * h)
         return len(self.made) - 1
 
     def write(self, sheet, x, y, text):
@@ -83,6 +83,10 @@ class Sheets:
     def how_many(self):
         """How many sheets there are."""
         return len(self.made)
+
+    def add_sheet(self, rows):
+        """Adds a sheet that has these rows and that no deed has met."""
+        self.made.append(Sheet(list(rows)))
 
     def sheet_of(self, sheet):
         """The sheet that has the number, refused where none has it."""

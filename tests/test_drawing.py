@@ -4,20 +4,17 @@ import inspect
 import random
 import unittest
 
-from cells import FAR, HUGE, cells_of, cells_of_box, is_plain, region_by_rows
+from cells import DEEP, FAR, HUGE, SceneTest, cells_of, cells_of_box, is_plain, region_by_rows, state
 from panelook import drawing
 from panelook.drawing import area, bare_in, corner, drawing_order, drawn, shown_at, shown_in
 from panelook.errors import LookError, NoPane, NoSize
 from panelook.panes import Panes
 from panelook.regions import is_region, region_of_box
 from panelook.sets import bounds, cells_in, either, has_cell, without
-from panelook.sheets import Sheets
 
 ARGUMENTS = {"corner": ["panes", "pane"], "area": ["panes", "pane"], "drawing_order": ["panes"],
              "shown_at": ["panes", "x", "y"], "shown_in": ["panes", "x", "y", "w", "h"],
              "bare_in": ["panes", "x", "y", "w", "h"], "drawn": ["panes", "x", "y", "w", "h"]}
-
-DEEP = 1500  # beyond what Python's own calls may be nested
 
 
 def paint(panes, cells, parent=0, left=0, top=0, board=None, areas=None):
@@ -38,27 +35,7 @@ def order_by_calls(panes, parent=0):
     return sum([[pane] + order_by_calls(panes, pane) for pane in panes.inside(parent)], [])
 
 
-def state(panes):
-    """All that is told of the panes, and what has been written on their sheets."""
-    numbers = panes.all_panes()
-    sheets = panes.sheets_kept()
-    return (panes.following(), numbers, [panes.told(pane) for pane in numbers],
-            [panes.inside(parent) for parent in [0] + numbers], sheets.written(),
-            [sheets.rows_of(sheet) for sheet in range(sheets.how_many())])
-
-
-class DrawingTest(unittest.TestCase):
-    def setUp(self):
-        self.sheets = Sheets()
-        self.sheets.make(8, 4, "a")
-        self.sheets.write(0, 0, 0, "01234567")
-        self.sheets.write(0, 0, 1, "abcdefgh")
-        self.sheets.make(3, 3, "b")
-        self.panes = Panes(self.sheets)
-
-    def pane(self, x, y, w, h, parent=0, sheet=0):
-        return self.panes.open_pane(parent, sheet, x, y, w, h)
-
+class DrawingTest(SceneTest):
     def nest(self, depth, x, y, w, h):
         """Opens panes of one place and size within one another, and tells the innermost one."""
         pane = 0
